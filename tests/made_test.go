@@ -34,11 +34,23 @@ type maker struct {
 	params []*madeValue
 	blocks []*madeBlock
 	draw   drawing
+	size   madeSize
 }
+
+// A madeSize tells how much there is at most: so many blocks, and less than so
+// many instructions made of dice in each of them.
+type madeSize struct{ blocks, insts int64 }
 
 // madeModule is a right module, with loops, calls, and blocks that are not
 // reached among all others.
-func madeModule(seed uint64) impl.Module {
+func madeModule(seed uint64) impl.Module { return sizedModule(seed, madeSize{7, 6}) }
+
+// wideModule has as many blocks as there may be, and less in each.
+func wideModule(seed uint64) impl.Module {
+	return sizedModule(seed, madeSize{impl.MaxBlocks, 3})
+}
+
+func sizedModule(seed uint64, size madeSize) impl.Module {
 	d := &dice{seed: seed}
 	d.below(2)
 	var heads impl.Module
@@ -51,14 +63,14 @@ func madeModule(seed uint64) impl.Module {
 	}
 	var m impl.Module
 	for _, f := range heads.Funcs {
-		k := &maker{dice: d, m: heads, f: copyFunc(f)}
+		k := &maker{dice: d, m: heads, f: copyFunc(f), size: size}
 		m.Funcs = append(m.Funcs, k.made())
 	}
 	return m
 }
 
 func (k *maker) made() impl.Func {
-	k.makeEnds(1 + k.below(7))
+	k.makeEnds(1 + k.below(k.size.blocks))
 	for _, w := range k.f.Params {
 		k.params = append(k.params, &madeValue{w: w})
 	}
@@ -111,7 +123,7 @@ func (k *maker) makeBlock(b int64) {
 			block.phis = append(block.phis, &madeValue{w: k.oneOf(widths())})
 		}
 	}
-	for range k.below(6) {
+	for range k.below(k.size.insts) {
 		block.insts = append(block.insts, k.madeInst(b))
 	}
 }
