@@ -452,6 +452,21 @@ func TestBytesOfOperandLists(t *testing.T) {
 	}
 }
 
+// oneOff has one of these numbers twice, or not at all, or an odd one in its
+// place.
+func oneOff(numbers []int64, odd []int64, d *dice) []int64 {
+	l := copyList(numbers)
+	at := d.below(int64(len(l)))
+	switch d.below(4) {
+	case 0:
+		return append(l[:at], l[at+1:]...)
+	case 1:
+		return append(l[:at+1], numbers[at:]...)
+	}
+	l[at] = d.oneOf(odd)
+	return l
+}
+
 // One number is another one, gone or there twice, and the sum put right.
 func TestBytesNumberByNumber(t *testing.T) {
 	read := 0
@@ -460,17 +475,7 @@ func TestBytesNumberByNumber(t *testing.T) {
 	for seed := range uint64(100) {
 		numbers := refNumbersOf(madeModule(seed))
 		for range 100 {
-			l := copyList(numbers)
-			at := d.below(int64(len(l)))
-			switch d.below(4) {
-			case 0:
-				l = append(l[:at], l[at+1:]...)
-			case 1:
-				l = append(l[:at+1], numbers[at:]...)
-			default:
-				l[at] = d.oneOf(odd)
-			}
-			s := bytesOfNumbers(l)
+			s := bytesOfNumbers(oneOff(numbers, odd, d))
 			want, is := refReadBytes(s)
 			got, ok := impl.ReadBytes(s)
 			if ok != is || !sameModule(got, want) {
